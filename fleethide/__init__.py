@@ -1,0 +1,1 @@
+"""Fleethide: ships hidden on a sheet, sought by shots."""
