@@ -2,23 +2,14 @@
 
 from fleethide.errors import NoCell, NoHiding, NoShot
 from fleethide.hidings import hidings_among, if_not_too_many
-from fleethide.sheets import all_cells, cells_of, is_cell, is_tuple_of, ships_of
+from fleethide.sheets import all_cells, are_marks, cells_of, is_cell, ships_of
 
 ANSWERS = ("water", "hit", "sunk")
 
 
 def is_record(sheet, thing):
     """Tell whether thing is a record of the sheet."""
-    if not isinstance(thing, list):
-        return False
-    if not all([is_told_shot(sheet, part) for part in thing]):
-        return False
-    return len(set(shot_cells(thing))) == len(thing)
-
-
-def is_told_shot(sheet, thing):
-    """Tell whether thing is a cell of the sheet with an answer."""
-    return is_tuple_of(thing, 2) and is_cell(sheet, thing[0]) and thing[1] in ANSWERS
+    return are_marks(sheet, thing, ANSWERS)
 
 
 def shot_cells(record):
@@ -135,6 +126,18 @@ def parts_in(sheet, found, record):
         for cell in whole:
             answered[cell] += many
     return {cell: (len(found) - hits[cell] - sinks[cell], hits[cell], sinks[cell]) for cell in left}
+
+
+def lots_in(found, record, cell):
+    """Part the hidings found by what each would answer, were the cell shot behind those of the record."""
+    shot = shot_cells(record) + [cell]
+    answers = {ship: answer_to([cells_of(ship)], cell, shot) for ship in ship_counts(found)}
+    lots = {answer: [] for answer in ANSWERS}
+    for hiding in found:
+        # No two ships share a cell, so at most one of them answers anything but water.
+        struck = [answers[ship] for ship in hiding if answers[ship] != "water"]
+        lots[struck[0] if struck else "water"].append(hiding)
+    return lots
 
 
 def parts_of(sheet, fleet, rule, record, cell):

@@ -33,6 +33,15 @@ def is_cell(sheet, thing):
     return is_whole(row) and is_whole(column) and 0 <= row < sheet[0] and 0 <= column < sheet[1]
 
 
+def are_marks(sheet, thing, words):
+    """Tell whether thing is a list of tuples, each of a cell of the sheet and one of the words, no two cells alike."""
+    if not isinstance(thing, list):
+        return False
+    if not all([is_tuple_of(part, 2) and is_cell(sheet, part[0]) and part[1] in words for part in thing]):
+        return False
+    return len({cell for cell, word in thing}) == len(thing)
+
+
 def all_cells(sheet):
     """List the cells of the sheet, rising."""
     rows, columns = sheet

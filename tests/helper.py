@@ -4,6 +4,8 @@ import copy
 import functools
 import itertools
 
+from fleethide.errors import HideError
+
 RULES = ("free", "sides", "corners")
 ANSWERS = ("water", "hit", "sunk")
 
@@ -23,6 +25,7 @@ JUST_20000 = ((6, 8), (7, 5, 3, 1), "sides")
 NO_HIDINGS = [((1, 1), (2,), "free"), ((2, 2), (2, 2), "sides"), ((3, 3), (8, 1), "free"), ((2, 2), (1, 1), "corners")]
 
 LONG = 10 ** 39
+OFF_CELLS = [(-1, 0), (0, -1), (-1, -1), (8, 8), (9, 0), (0, 9), (LONG, 0), (0, -LONG), (LONG, LONG)]
 ODD_NUMBERS = [-1, -2, -8, -LONG, LONG, 10 ** 40 - 1, 1 - 10 ** 40]
 ODD_THINGS = ODD_NUMBERS + [
     0, 1, 2, 3, 7, 8, 9, True, False, None, "", " ", "1", "along", "down", "Along", "water", "hit", "sunk", "free",
@@ -42,6 +45,12 @@ def all_fleets():
 
 def grid(sheet):
     return list(itertools.product(range(sheet[0]), range(sheet[1])))
+
+
+def off_cells(sheet):
+    """Tuples of two whole numbers that are no cells of the sheet, the nearest ones among them."""
+    rows, columns = sheet
+    return OFF_CELLS + [(rows, 0), (0, columns), (rows, columns), (-rows, 0), (0, -columns), (-1, columns - 1)]
 
 
 def body(ship):
@@ -100,6 +109,39 @@ def told_fitting(sheet, fleet, rule, record):
     return [hiding for hiding in told_hidings(sheet, fleet, rule) if told_answers(hiding, cells) == answers]
 
 
+def told_chances(sheet, found):
+    rows = [[(row, column) for column in range(sheet[1])] for row in range(sheet[0])]
+    bodies = [set().union(*[body(ship) for ship in hiding]) for hiding in found]
+    return [[len([1 for cells in bodies if cell in cells]) for cell in row] for row in rows]
+
+
+def told_unshot(sheet, record):
+    shot = [cell for cell, answer in record]
+    return [cell for cell in grid(sheet) if cell not in shot]
+
+
+def told_sure(sheet, found, record):
+    table = told_chances(sheet, found)
+    left = told_unshot(sheet, record)
+    water = [cell for cell in left if table[cell[0]][cell[1]] == 0]
+    return water, [cell for cell in left if table[cell[0]][cell[1]] == len(found)]
+
+
+def told_parts(found, record, cell):
+    cells = [shot for shot, answer in record] + [cell]
+    answers = [told_answers(hiding, cells)[-1] for hiding in found]
+    return tuple(answers.count(answer) for answer in ANSWERS)
+
+
+def told_best(sheet, found, record):
+    best = None
+    for cell in told_unshot(sheet, record):
+        parts = told_parts(found, record, cell)
+        if best is None or max(parts) < max(best[1]):
+            best = (cell, parts)
+    return best
+
+
 def shuffled(sheet, turn):
     """All cells of the sheet in an order that hangs on the turn."""
     cells = grid(sheet)
@@ -148,6 +190,14 @@ def mutants(thing, fillers=ODD_THINGS):
         yield kind(parts[:at] + [part] + parts[at:])
         for changed in mutants(part, fillers):
             yield kind(parts[:at] + [changed] + parts[at + 1:])
+
+
+def refused(test, kind, cell, function, *values):
+    """See that the question is refused with just this kind of refusal, and this cell."""
+    with test.assertRaises(HideError) as held:
+        function(*values)
+    test.assertIs(type(held.exception), kind, values)
+    test.assertEqual(repr(held.exception.cell), repr(cell))
 
 
 def spoil(told):

@@ -3,15 +3,8 @@
 import unittest
 
 import helper
-from fleethide.errors import HideError, NoHiding, NoNumber, TooMany
+from fleethide.errors import NoHiding, NoNumber, TooMany
 from fleethide.hidings import hiding_at, hidings, how_many, number_of
-
-
-def refused(test, kind, function, *values):
-    with test.assertRaises(HideError) as held:
-        function(*values)
-    test.assertIs(type(held.exception), kind, values)
-    test.assertIsNone(held.exception.cell)
 
 
 class SmallGamesTest(unittest.TestCase):
@@ -33,7 +26,7 @@ class SmallGamesTest(unittest.TestCase):
         for game in helper.SMALL_GAMES + helper.NO_HIDINGS:
             many = how_many(*game)
             for number in [many, many + 1, -many - 1] + helper.ODD_NUMBERS:
-                refused(self, NoNumber, hiding_at, *game, number)
+                helper.refused(self, NoNumber, None, hiding_at, *game, number)
 
     def test_no_hiding_of_anything(self):
         for game in helper.SMALL_GAMES:
@@ -44,7 +37,7 @@ class SmallGamesTest(unittest.TestCase):
                     if repr(thing) in written:
                         self.assertEqual(number_of(*game, thing), written[repr(thing)])
                     else:
-                        refused(self, NoHiding, number_of, *game, thing)
+                        helper.refused(self, NoHiding, None, number_of, *game, thing)
 
     def test_written_out(self):
         self.assertEqual(hidings((1, 3), (1, 1), "sides"), [((0, 0, "along", 1), (0, 2, "along", 1))])
@@ -59,9 +52,9 @@ class EdgesTest(unittest.TestCase):
         for game in helper.NO_HIDINGS:
             self.assertEqual(how_many(*game), 0)
             self.assertEqual(hidings(*game), [])
-            refused(self, NoNumber, hiding_at, *game, 0)
+            helper.refused(self, NoNumber, None, hiding_at, *game, 0)
             for thing in helper.ODD_THINGS:
-                refused(self, NoHiding, number_of, *game, thing)
+                helper.refused(self, NoHiding, None, number_of, *game, thing)
 
     def test_just_1000_are_told(self):
         self.assertEqual(how_many(*helper.JUST_1000), 1000)
@@ -70,8 +63,8 @@ class EdgesTest(unittest.TestCase):
 
     def test_more_than_1000_are_too_many(self):
         self.assertEqual(how_many(*helper.JUST_1001), 1001)
-        refused(self, TooMany, hidings, *helper.JUST_1001)
-        refused(self, TooMany, hidings, *helper.JUST_20000)
+        helper.refused(self, TooMany, None, hidings, *helper.JUST_1001)
+        helper.refused(self, TooMany, None, hidings, *helper.JUST_20000)
         self.assertEqual(hiding_at(*helper.JUST_1001, 1000), tuple((1, column, "along", 1) for column in range(3, 7)))
 
     def test_near_20000(self):
@@ -85,7 +78,7 @@ class EdgesTest(unittest.TestCase):
             self.assertTrue(last is None or last < hiding)
             last = hiding
         for number in [20000, -1, -20000, helper.LONG]:
-            refused(self, NoNumber, hiding_at, *game, number)
+            helper.refused(self, NoNumber, None, hiding_at, *game, number)
 
     def test_by_name_and_unchanged(self):
         game = [(3, 3), (2, 1), "sides"]

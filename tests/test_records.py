@@ -4,53 +4,11 @@ import itertools
 import unittest
 
 import helper
-from fleethide.errors import HideError, NoCell, NoHiding, NoShot, TooMany
+from fleethide.errors import NoCell, NoHiding, NoShot, TooMany
 from fleethide.records import answers_of, best_shot, chances, fits, fitting, how_many_fit, is_record, parts_of, sure
 
-OFF_CELLS = [(-1, 0), (0, -1), (-1, -1), (8, 8), (9, 0), (0, 9), (helper.LONG, 0), (0, -helper.LONG),
-             (helper.LONG, helper.LONG)]
 NEAR_20000 = ((4, 7), (3, 2, 2), "free")
 LINE = ((1, 4), (2,), "free")
-
-
-def refused(test, kind, cell, function, *values):
-    with test.assertRaises(HideError) as held:
-        function(*values)
-    test.assertIs(type(held.exception), kind, values)
-    test.assertEqual(held.exception.cell, cell)
-
-
-def told_chances(sheet, found):
-    rows = [[(row, column) for column in range(sheet[1])] for row in range(sheet[0])]
-    bodies = [set().union(*[helper.body(ship) for ship in hiding]) for hiding in found]
-    return [[len([1 for cells in bodies if cell in cells]) for cell in row] for row in rows]
-
-
-def told_unshot(sheet, record):
-    shot = [cell for cell, answer in record]
-    return [cell for cell in helper.grid(sheet) if cell not in shot]
-
-
-def told_sure(sheet, found, record):
-    table = told_chances(sheet, found)
-    left = told_unshot(sheet, record)
-    water = [cell for cell in left if table[cell[0]][cell[1]] == 0]
-    return water, [cell for cell in left if table[cell[0]][cell[1]] == len(found)]
-
-
-def told_parts(found, record, cell):
-    cells = [shot for shot, answer in record] + [cell]
-    answers = [helper.told_answers(hiding, cells)[-1] for hiding in found]
-    return tuple(answers.count(answer) for answer in helper.ANSWERS)
-
-
-def told_best(sheet, found, record):
-    best = None
-    for cell in told_unshot(sheet, record):
-        parts = told_parts(found, record, cell)
-        if best is None or max(parts) < max(best[1]):
-            best = (cell, parts)
-    return best
 
 
 class IsRecordTest(unittest.TestCase):
@@ -75,8 +33,7 @@ class IsRecordTest(unittest.TestCase):
 
     def test_no_cell_off_the_sheet(self):
         for sheet in [(3, 5), (5, 3), (8, 8)]:
-            beyond = [(sheet[0], 0), (0, sheet[1]), sheet]
-            for cell in OFF_CELLS + beyond + [(0,), (0, 0, 0), [0, 0], (0, True), (None, 0)]:
+            for cell in helper.off_cells(sheet) + [(0,), (0, 0, 0), [0, 0], (0, True), (None, 0)]:
                 self.assertIs(is_record(sheet, [((0, 0), "water"), (cell, "water")]), False, cell)
             self.assertIs(is_record(sheet, [((sheet[0] - 1, sheet[1] - 1), "water")]), True)
 
@@ -136,16 +93,16 @@ class SmallGamesTest(unittest.TestCase):
     def test_chances(self):
         for game, record, found in self.each():
             if found:
-                self.assertEqual(chances(*game, record), told_chances(game[0], found), (game, record))
+                self.assertEqual(chances(*game, record), helper.told_chances(game[0], found), (game, record))
             else:
-                refused(self, NoHiding, None, chances, *game, record)
+                helper.refused(self, NoHiding, None, chances, *game, record)
 
     def test_sure(self):
         for game, record, found in self.each():
             if found:
-                self.assertEqual(sure(*game, record), told_sure(game[0], found, record), (game, record))
+                self.assertEqual(sure(*game, record), helper.told_sure(game[0], found, record), (game, record))
             else:
-                refused(self, NoHiding, None, sure, *game, record)
+                helper.refused(self, NoHiding, None, sure, *game, record)
 
     def test_parts(self):
         for game, record, found in self.each():
@@ -153,20 +110,20 @@ class SmallGamesTest(unittest.TestCase):
             for cell in helper.shuffled(game[0], 2)[:4]:
                 values = (*game, record, cell)
                 if not found:
-                    refused(self, NoHiding, None, parts_of, *values)
+                    helper.refused(self, NoHiding, None, parts_of, *values)
                 elif cell in shot:
-                    refused(self, NoShot, cell, parts_of, *values)
+                    helper.refused(self, NoShot, cell, parts_of, *values)
                 else:
-                    self.assertEqual(parts_of(*values), told_parts(found, record, cell), values)
+                    self.assertEqual(parts_of(*values), helper.told_parts(found, record, cell), values)
 
     def test_best_shot(self):
         for game, record, found in self.each():
             if not found:
-                refused(self, NoHiding, None, best_shot, *game, record)
+                helper.refused(self, NoHiding, None, best_shot, *game, record)
             elif len(record) == game[0][0] * game[0][1]:
-                refused(self, NoShot, None, best_shot, *game, record)
+                helper.refused(self, NoShot, None, best_shot, *game, record)
             else:
-                self.assertEqual(best_shot(*game, record), told_best(game[0], found, record), (game, record))
+                self.assertEqual(best_shot(*game, record), helper.told_best(game[0], found, record), (game, record))
 
 
 class WrittenOutTest(unittest.TestCase):
@@ -202,9 +159,9 @@ class EdgesTest(unittest.TestCase):
                 self.assertEqual(how_many_fit(*game, record), 0)
                 self.assertEqual(fitting(*game, record), [])
                 for function in [chances, sure, best_shot]:
-                    refused(self, NoHiding, None, function, *game, record)
-                for cell in [(0, 0)] + OFF_CELLS:
-                    refused(self, NoHiding, None, parts_of, *game, record, cell)
+                    helper.refused(self, NoHiding, None, function, *game, record)
+                for cell in [(0, 0)] + helper.OFF_CELLS:
+                    helper.refused(self, NoHiding, None, parts_of, *game, record, cell)
 
     def test_just_1000_fit(self):
         game, record = ((4, 7), (3, 2), "free"), [((1, 1), "water")]
@@ -215,9 +172,9 @@ class EdgesTest(unittest.TestCase):
     def test_more_than_1000_fit(self):
         game, record = ((3, 5), (1, 1, 1, 1), "free"), [((0, 0), "water")]
         self.assertEqual(how_many_fit(*game, record), 1001)
-        refused(self, TooMany, None, fitting, *game, record)
-        refused(self, TooMany, None, fitting, *helper.JUST_1001, [])
-        refused(self, TooMany, None, fitting, *helper.JUST_20000, [])
+        helper.refused(self, TooMany, None, fitting, *game, record)
+        helper.refused(self, TooMany, None, fitting, *helper.JUST_1001, [])
+        helper.refused(self, TooMany, None, fitting, *helper.JUST_20000, [])
 
     def test_few_fit_where_many_are(self):
         game = helper.JUST_20000
@@ -236,10 +193,10 @@ class EdgesTest(unittest.TestCase):
         for record in [[], [((1, 3), "hit")], [((0, 0), "water"), ((2, 2), "hit"), ((2, 3), "sunk")]]:
             found = helper.told_fitting(*NEAR_20000, record)
             self.assertEqual(how_many_fit(*NEAR_20000, record), len(found))
-            self.assertEqual(chances(*NEAR_20000, record), told_chances(sheet, found))
-            self.assertEqual(sure(*NEAR_20000, record), told_sure(sheet, found, record))
-            self.assertEqual(parts_of(*NEAR_20000, record, (3, 6)), told_parts(found, record, (3, 6)))
-            self.assertEqual(best_shot(*NEAR_20000, record), told_best(sheet, found, record))
+            self.assertEqual(chances(*NEAR_20000, record), helper.told_chances(sheet, found))
+            self.assertEqual(sure(*NEAR_20000, record), helper.told_sure(sheet, found, record))
+            self.assertEqual(parts_of(*NEAR_20000, record, (3, 6)), helper.told_parts(found, record, (3, 6)))
+            self.assertEqual(best_shot(*NEAR_20000, record), helper.told_best(sheet, found, record))
 
     def test_records_of_all_cells(self):
         for game in helper.SMALL_GAMES:
@@ -250,26 +207,26 @@ class EdgesTest(unittest.TestCase):
                 self.assertIn(hiding, found)
                 self.assertEqual(fitting(*game, record), found)
                 self.assertEqual(sure(*game, record), ([], []))
-                self.assertEqual(chances(*game, record), told_chances(game[0], found))
-                refused(self, NoShot, None, best_shot, *game, record)
-                refused(self, NoShot, cells[-1], parts_of, *game, record, cells[-1])
-                refused(self, NoCell, (-1, 0), parts_of, *game, record, (-1, 0))
+                self.assertEqual(chances(*game, record), helper.told_chances(game[0], found))
+                helper.refused(self, NoShot, None, best_shot, *game, record)
+                helper.refused(self, NoShot, cells[-1], parts_of, *game, record, cells[-1])
+                helper.refused(self, NoCell, (-1, 0), parts_of, *game, record, (-1, 0))
 
     def test_all_cells_shot_and_none_fits(self):
         record = [((0, column), "water") for column in range(4)]
-        refused(self, NoHiding, None, best_shot, *LINE, record)
-        refused(self, NoHiding, None, parts_of, *LINE, record, (0, 0))
-        refused(self, NoHiding, None, parts_of, *LINE, record, (0, 4))
+        helper.refused(self, NoHiding, None, best_shot, *LINE, record)
+        helper.refused(self, NoHiding, None, parts_of, *LINE, record, (0, 0))
+        helper.refused(self, NoHiding, None, parts_of, *LINE, record, (0, 4))
 
     def test_refusals_of_parts(self):
         for sheet, fleet in [((1, 4), (2,)), ((4, 3), (2, 2)), ((8, 8), (3,))]:
             record = [((0, 0), "water")]
-            for cell in OFF_CELLS + [(sheet[0], 0), (0, sheet[1]), (-sheet[0], 0), (0, -sheet[1]), (-1, sheet[1] - 1)]:
-                refused(self, NoCell, cell, parts_of, sheet, fleet, "sides", record, cell)
-                refused(self, NoHiding, None, parts_of, sheet, fleet, "sides", [((0, 0), "sunk")], cell)
-            refused(self, NoShot, (0, 0), parts_of, sheet, fleet, "sides", record, (0, 0))
-            refused(self, NoHiding, None, parts_of, sheet, fleet, "sides", [((0, 0), "sunk")], (0, 0))
-            refused(self, NoHiding, None, parts_of, sheet, fleet, "sides", [((0, 0), "sunk")], (0, 1))
+            for cell in helper.off_cells(sheet):
+                helper.refused(self, NoCell, cell, parts_of, sheet, fleet, "sides", record, cell)
+                helper.refused(self, NoHiding, None, parts_of, sheet, fleet, "sides", [((0, 0), "sunk")], cell)
+            helper.refused(self, NoShot, (0, 0), parts_of, sheet, fleet, "sides", record, (0, 0))
+            helper.refused(self, NoHiding, None, parts_of, sheet, fleet, "sides", [((0, 0), "sunk")], (0, 0))
+            helper.refused(self, NoHiding, None, parts_of, sheet, fleet, "sides", [((0, 0), "sunk")], (0, 1))
 
     def test_by_name_and_unchanged(self):
         game = [(3, 3), (2, 1), "sides"]
