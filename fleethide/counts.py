@@ -2,7 +2,7 @@
 
 from fleethide.errors import NoCounts
 from fleethide.hidings import all_hidings, if_not_too_many
-from fleethide.sheets import are_marks, cells_of, is_tuple_of, is_whole
+from fleethide.sheets import are_marks, is_tuple_of, is_whole, lying_cells
 
 MARKS = ("water", "ship")
 STANDINGS = ("none", "one", "more")
@@ -11,10 +11,9 @@ STANDINGS = ("none", "one", "more")
 def counts_of(sheet, hiding):
     """Count the cells of each row, and of each column, on which ships lie."""
     rows, columns = [0] * sheet[0], [0] * sheet[1]
-    for ship in hiding:
-        for row, column in cells_of(ship):
-            rows[row] += 1
-            columns[column] += 1
+    for row, column in lying_cells(hiding):
+        rows[row] += 1
+        columns[column] += 1
     return (tuple(rows), tuple(columns))
 
 
@@ -46,7 +45,7 @@ def are_counts(thing, many):
 
 def has_marks(hiding, marks):
     """Tell whether ships of the hiding lie at the cells marked so, and at none that is marked water."""
-    lying = {cell for ship in hiding for cell in cells_of(ship)}
+    lying = lying_cells(hiding)
     return all([(cell in lying) == (word == "ship") for cell, word in marks])
 
 

@@ -30,6 +30,13 @@ def if_not_too_many(found):
     return found
 
 
+def one_at(found, number):
+    """Give back the hiding that has the number in the list that was found, or refuse the number."""
+    if not is_whole(number) or not 0 <= number < len(found):
+        raise NoNumber("no hiding has this number")
+    return found[number]
+
+
 def how_many(sheet, fleet, rule):
     """Count the hidings."""
     return len(all_hidings(sheet, fleet, rule))
@@ -42,10 +49,7 @@ def hidings(sheet, fleet, rule):
 
 def hiding_at(sheet, fleet, rule, number):
     """Tell the hiding that has the number."""
-    found = all_hidings(sheet, fleet, rule)
-    if not is_whole(number) or not 0 <= number < len(found):
-        raise NoNumber("no hiding has this number")
-    return found[number]
+    return one_at(all_hidings(sheet, fleet, rule), number)
 
 
 def number_of(sheet, fleet, rule, thing):

@@ -1,6 +1,7 @@
 """What seekers and answerers share: shots with their answers, and the hidings that are left behind them."""
 
 from fleethide.errors import NothingLeft
+from fleethide.hidings import one_at
 from fleethide.records import lots_in, refuse_shot, some_fitting
 
 
@@ -42,3 +43,7 @@ class Search:
     def left(self):
         """Count the hidings that fit."""
         return len(self.layers[-1])
+
+    def fitting_at(self, number):
+        """Tell the hiding that has the number among those that fit."""
+        return one_at(self.layers[-1], number)

@@ -1,6 +1,7 @@
 """Sheets, cells, ships, the rules that ships keep, fleets and hidings."""
 
 WAYS = ("along", "down")
+RULES = ("free", "sides", "corners")
 GREATEST = 8
 MOST_SHIPS = 4
 
@@ -72,6 +73,11 @@ def cells_of(ship):
     if way == "down":
         return [(row + step, column) for step in range(length)]
     return [(row, column + step) for step in range(length)]
+
+
+def lying_cells(hiding):
+    """List the cells on which ships of the hiding lie, rising."""
+    return sorted([cell for ship in hiding for cell in cells_of(ship)])
 
 
 def rows_between(one, other):

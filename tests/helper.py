@@ -65,6 +65,11 @@ def all_ships(sheet, length):
     return [ship for ship in ships if body(ship) <= cells and not (length == 1 and ship[2] == "down")]
 
 
+def lying(hiding):
+    """The cells on which ships of the hiding lie."""
+    return set().union(*[body(ship) for ship in hiding])
+
+
 def beside(rule):
     straight = [(0, 1), (1, 0), (0, -1), (-1, 0)]
     corners = [(1, 1), (1, -1), (-1, 1), (-1, -1)]
@@ -111,7 +116,7 @@ def told_fitting(sheet, fleet, rule, record):
 
 def told_chances(sheet, found):
     rows = [[(row, column) for column in range(sheet[1])] for row in range(sheet[0])]
-    bodies = [set().union(*[body(ship) for ship in hiding]) for hiding in found]
+    bodies = [lying(hiding) for hiding in found]
     return [[len([1 for cells in bodies if cell in cells]) for cell in row] for row in rows]
 
 
@@ -142,15 +147,20 @@ def told_best(sheet, found, record):
     return best
 
 
+def mixed(things, turn):
+    """All the things in an order that hangs on the turn."""
+    left = list(things)
+    found = []
+    at = turn
+    while left:
+        at = (at * 5 + turn + 3) % len(left)
+        found.append(left.pop(at))
+    return found
+
+
 def shuffled(sheet, turn):
     """All cells of the sheet in an order that hangs on the turn."""
-    cells = grid(sheet)
-    mixed = []
-    at = turn
-    while cells:
-        at = (at * 5 + turn + 3) % len(cells)
-        mixed.append(cells.pop(at))
-    return mixed
+    return mixed(grid(sheet), turn)
 
 
 def records_for(sheet, fleet, rule):
@@ -211,7 +221,7 @@ def spoil(told):
 
 
 def check_call(test, function, names, values):
-    """Ask by places and by names; see that nothing handed in is changed, and that lists told are the asker's own."""
+    """Ask by places, and by names in two orders; see that nothing handed in is changed, and lists told are new."""
     handed = copy.deepcopy(values)
     first = function(*handed)
     test.assertEqual(repr(handed), repr(values))
@@ -222,4 +232,6 @@ def check_call(test, function, names, values):
     test.assertEqual(second, told)
     spoil(handed)
     test.assertEqual(second, told)
+    named = dict(zip(names.split(), copy.deepcopy(values)))
+    test.assertEqual(function(**{name: named[name] for name in reversed(names.split())}), told)
     test.assertEqual(function(*copy.deepcopy(values)), told)

@@ -10,12 +10,8 @@ WORDS = ("water", "ship")
 FEW_THINGS = [-1, 0, 1, True, False, None, "", "ship", (), [], (0, 0), [((0, 0), "ship")], helper.LONG]
 
 
-def lying(hiding):
-    return set().union(*[helper.body(ship) for ship in hiding])
-
-
 def told_counts(sheet, hiding):
-    cells = lying(hiding)
+    cells = helper.lying(hiding)
     rows = [len([1 for column in range(sheet[1]) if (row, column) in cells]) for row in range(sheet[0])]
     columns = [len([1 for row in range(sheet[0]) if (row, column) in cells]) for column in range(sheet[1])]
     return tuple(rows), tuple(columns)
@@ -30,7 +26,7 @@ def told_with(sheet, fleet, rule, rows, columns, marks):
     found = []
     for hiding in helper.told_hidings(sheet, fleet, rule):
         have = told_counts(sheet, hiding)
-        marked = all((cell in lying(hiding)) == (word == "ship") for cell, word in marks)
+        marked = all((cell in helper.lying(hiding)) == (word == "ship") for cell, word in marks)
         if agree(have[0], rows) and agree(have[1], columns) and marked:
             found.append(hiding)
     return found
@@ -59,7 +55,7 @@ def wants_for(sheet, fleet, rule):
         hiding = found[(turn * 31 + 5) % len(found)]
         rows, columns = told_counts(sheet, hiding)
         cells = helper.shuffled(sheet, turn)
-        marks = [(cell, WORDS[cell in lying(hiding)]) for cell in cells]
+        marks = [(cell, WORDS[cell in helper.lying(hiding)]) for cell in cells]
         yield (rows, columns, [])
         yield (thinned(rows, turn), thinned(columns, turn + 1), [])
         yield (thinned(rows, turn + 1), thinned(columns, turn), marks[:turn])
@@ -67,7 +63,7 @@ def wants_for(sheet, fleet, rule):
         yield (*any_of(sheet), marks)
         yield (rows[:-1] + (rows[-1] + 1,), columns, [])
         yield (thinned(rows, turn), (columns[0] - 1,) + columns[1:], marks[:2])
-        yield (rows, columns, [(cell, WORDS[cell not in lying(hiding)]) for cell in cells[:1]] + marks[1:3])
+        yield (rows, columns, [(cell, WORDS[cell not in helper.lying(hiding)]) for cell in cells[:1]] + marks[1:3])
 
 
 class CountsOfTest(unittest.TestCase):
@@ -162,7 +158,7 @@ class TooManyTest(unittest.TestCase):
         self.assertEqual(found, sorted(set(found)))
         for hiding in found:
             self.assertTrue(agree(told_counts(game[0], hiding)[0], rows))
-            self.assertTrue((0, 0) not in lying(hiding) and (1, 1) in lying(hiding))
+            self.assertTrue((0, 0) not in helper.lying(hiding) and (1, 1) in helper.lying(hiding))
         self.assertEqual(settled(*game, rows, columns, marks), ("more", found[0], found[1]))
 
 
